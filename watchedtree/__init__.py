@@ -1,0 +1,1 @@
+"""A tree that's watched, whole."""
