@@ -48,6 +48,42 @@ def watch(client, *path):
     return call(8, [client], [path])
 
 
+def ask(client):
+    return call(9, [client])
+
+
+def compact(turn):
+    return call(10, [turn])
+
+
+def take(letter):
+    return call(11, [letter])
+
+
+def keep(letter):
+    return call(12, [letter])
+
+
+def lose(letter):
+    return call(13, [letter])
+
+
+def letters():
+    return call(14)
+
+
+def client(number):
+    return call(15, [number])
+
+
+def house():
+    return call(16)
+
+
+def log(turn):
+    return call(17, [turn])
+
+
 def make(*path, value=0, session=0, version=0):
     return [MAKE, version, value, session, *path]
 

@@ -1,12 +1,22 @@
-"""Letters, and the net on which they lie."""
+"""Letters, what can come of them, and the net on which they lie."""
 
 ASKS = 0
 NEWS = 1
+PICTURE = 2
+
+NO_USE = 0
+NEWS_SENT = 1
+PICTURE_SENT = 2
+COPY_GOES_ON = 3
+HAS_PICTURE = 4
+LACKS_SOMETHING = 5
+
 ROOM = 100
 
 
 class Letter:
     # What a kind of letter doesn't tell stays as it is put here.
+    # Once sent a letter is never altered: it may lie on and be handed over again.
     def __init__(self, kind, client, number):
         self.kind = kind
         self.client = client
@@ -27,6 +37,12 @@ class Net:
         if len(self.letters) < ROOM:
             self.letters.append(letter)
 
+    def has_letter(self, place):
+        return place < len(self.letters)
+
+    def take_out(self, place):
+        return self.letters.pop(place)
+
 
 def asking_letter(client, number, path, behind):
     letter = Letter(ASKS, client, number)
@@ -40,4 +56,11 @@ def news_letter(client, number, behind, turn, events):
     letter.behind = behind
     letter.turn = turn
     letter.events = events
+    return letter
+
+
+def picture_letter(client, number, turn, entries):
+    letter = Letter(PICTURE, client, number)
+    letter.turn = turn
+    letter.entries = entries
     return letter

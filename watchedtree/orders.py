@@ -1,6 +1,7 @@
 """Orders: whether each can be done, and doing them all or none."""
 
-from watchedtree.house import CHANGED, GONE, MADE, Event, Node
+from watchedtree.events import CHANGED, GONE, MADE, Event
+from watchedtree.house import Node
 from watchedtree.paths import is_below, is_path
 
 MAKE = 0

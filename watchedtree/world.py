@@ -2,9 +2,10 @@
 
 from watchedtree.clients import Client
 from watchedtree.house import House
-from watchedtree.letters import Net
+from watchedtree.letters import ASKS, NEWS, Net
 from watchedtree.orders import Order, are_orders, do_together
 from watchedtree.paths import is_path, is_path_or_empty
+from watchedtree.telling import tell_client, tell_events, tell_house, tell_letters, tell_row, tell_turn
 
 CLIENTS = 3
 LATEST = 9999
@@ -15,6 +16,17 @@ class World:
         self.net = Net()
         self.house = House(life, self.net)
         self.clients = [Client(client) for client in range(CLIENTS)]
+
+    def has_client(self, client):
+        return client < CLIENTS
+
+    def hand_over(self, letter):
+        if letter.kind == ASKS:
+            return self.house.hear_asking(letter)
+        client = self.clients[letter.client]
+        if letter.kind == NEWS:
+            return client.hear_news(letter)
+        return client.see_picture(letter)
 
 
 # Each call takes the world, its whole numbers and its lists, so that one table can hold them all.
@@ -71,17 +83,80 @@ def answer_list(world, numbers, lists):
         return [-1]
     if len(top) > 0 and top not in nodes:
         return [-2]
-    row = sorted([path[-1] for path in nodes if path[:-1] == top])
-    return [len(row)] + row
+    return tell_row(sorted([path[-1] for path in nodes if path[:-1] == top]))
 
 
 def answer_watch(world, numbers, lists):
     path = tuple(lists[0])
-    if numbers[0] >= CLIENTS or not is_path_or_empty(path):
+    if not world.has_client(numbers[0]) or not is_path_or_empty(path):
         return [-1]
     client = world.clients[numbers[0]]
     client.start_watch(path, world.net)
     return [client.number]
+
+
+def answer_ask(world, numbers, lists):
+    if not world.has_client(numbers[0]):
+        return [-1]
+    client = world.clients[numbers[0]]
+    if not client.watches():
+        return [-2]
+    client.ask_house(world.net)
+    return [tell_turn(client.up_to)]
+
+
+def answer_compact(world, numbers, lists):
+    house = world.house
+    if numbers[0] > house.last_turn():
+        return [-1]
+    if numbers[0] < house.base:
+        return [-2]
+    house.base = numbers[0]
+    return [0]
+
+
+def answer_take(world, numbers, lists):
+    if not world.net.has_letter(numbers[0]):
+        return [-1]
+    # Taken out first, so that what is sent when it's handed over finds its room.
+    letter = world.net.take_out(numbers[0])
+    return [world.hand_over(letter)]
+
+
+def answer_keep(world, numbers, lists):
+    if not world.net.has_letter(numbers[0]):
+        return [-1]
+    return [world.hand_over(world.net.letters[numbers[0]])]
+
+
+def answer_lose(world, numbers, lists):
+    if not world.net.has_letter(numbers[0]):
+        return [-1]
+    world.net.take_out(numbers[0])
+    return [0]
+
+
+def answer_letters(world, numbers, lists):
+    return tell_letters(world.net.letters)
+
+
+def answer_client(world, numbers, lists):
+    if not world.has_client(numbers[0]):
+        return [-1]
+    return tell_client(world.clients[numbers[0]])
+
+
+def answer_house(world, numbers, lists):
+    return tell_house(world.house)
+
+
+def answer_log(world, numbers, lists):
+    house = world.house
+    if not house.has_turn(numbers[0]):
+        return [-1]
+    if numbers[0] <= house.base:
+        return [-2]
+    return tell_events(house.events_of(numbers[0]))
 
 
 CALLS = {
@@ -93,11 +168,18 @@ CALLS = {
     6: answer_get,
     7: answer_list,
     8: answer_watch,
+    9: answer_ask,
+    10: answer_compact,
+    11: answer_take,
+    12: answer_keep,
+    13: answer_lose,
+    14: answer_letters,
+    15: answer_client,
+    16: answer_house,
+    17: answer_log,
 }
 
 
 def answer_call(world, call, numbers, lists):
-    if call not in CALLS:
-        raise NotImplementedError(f"call {call} is not built yet")
     answer = CALLS[call]
     return answer(world, numbers, lists)
